@@ -1,0 +1,52 @@
+// Package valise: a module's files in one archive, the same for everyone: see DOC.md.
+package valise
+
+import (
+	"valise/api"
+	"valise/check"
+	"valise/digest"
+	"valise/disk"
+)
+
+// Digest tells a digest (P2).
+func Digest(data string) string { return digest.Of(data) }
+
+// Check tells a check (P2).
+func Check(data string) int { return int(check.Of(data)) }
+
+// Inflate unpacks bytes (P3).
+func Inflate(packed string) (string, int, api.Errno) { return "", 0, api.OK }
+
+// Deflate packs bytes (P4).
+func Deflate(data string) (string, api.Errno) { return "", api.OK }
+
+// Choose chooses a module's files (P5).
+func Choose(tree []api.Entry) ([]api.File, []api.Left, api.Errno) { return nil, nil, api.OK }
+
+// Pack packs a module (P6).
+func Pack(module string, version string, tree []api.Entry) (string, api.Errno) {
+	return "", api.OK
+}
+
+// Unpack unpacks an archive (P7).
+func Unpack(module string, version string, archive string) ([]api.File, api.Errno) {
+	return nil, api.OK
+}
+
+// Sum tells the sum of files (P8).
+func Sum(module string, version string, files []api.File) (string, api.Errno) {
+	return "", api.OK
+}
+
+// Verify holds an archive against a sum (P8).
+func Verify(module string, version string, archive string, sum string) api.Errno {
+	return api.OK
+}
+
+// Extract writes an archive's files to a disk (P9).
+func Extract(d *disk.Disk, place string, module string, version string, archive string) api.Errno {
+	return api.OK
+}
+
+// Recover cleans a disk behind an Extract that was stopped (P10).
+func Recover(d *disk.Disk, place string) api.Errno { return api.OK }
