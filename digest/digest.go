@@ -15,12 +15,11 @@ var startWords = [8]uint32{
 
 // Of tells the digest of data as 64 digits of base 16.
 func Of(data string) string {
-	return inHex(words(data))
+	return inHex(words(data, roundNumbers()))
 }
 
 // words takes whole blocks where they stand, so that only the last piece of long data is copied.
-func words(data string) [8]uint32 {
-	k := roundNumbers()
+func words(data string, k [64]uint32) [8]uint32 {
 	whole := len(data) - len(data)%blockSize
 	h := absorb(startWords, k, data[:whole])
 	return absorb(h, k, data[whole:]+padding(uint64(len(data))))

@@ -70,6 +70,24 @@ func TestRoundNumbersAreKept(t *testing.T) {
 	rounds[0]--
 }
 
+// What is kept is what the function works out, and it works it out of nothing that is kept.
+func TestRoundNumbersAreWhatIsWorkedOut(t *testing.T) {
+	want := workedOut()
+	if roundNumbers() != want {
+		t.Errorf("what is kept is not what is worked out")
+	}
+	rounds[63]++
+	if workedOut() != want {
+		t.Errorf("what is worked out hangs on what is kept")
+	}
+	rounds[63]--
+	for _, data := range []string{"", "abc", strings.Repeat("valise", 100)} {
+		if got := inHex(words(data, want)); got != Of(data) {
+			t.Errorf("of %d bytes: %s by the function, %s by what is kept", len(data), got, Of(data))
+		}
+	}
+}
+
 func TestRoundNumbersSideBySide(t *testing.T) {
 	once, rounds = sync.Once{}, [64]uint32{}
 	var all sync.WaitGroup

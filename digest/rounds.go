@@ -5,7 +5,8 @@ import (
 	"sync"
 )
 
-// The numbers K are the same for every digest, so they are worked out once and kept.
+// The numbers K are the same for every digest, so they are worked out once and kept. These two
+// stand beside workedOut, which needs neither: keeping spares work, and changes no answer.
 var (
 	once   sync.Once
 	rounds [64]uint32
@@ -13,14 +14,21 @@ var (
 
 // roundNumbers hands out the numbers K as a copy, so that what is kept can't be changed through it.
 func roundNumbers() [64]uint32 {
-	once.Do(workOutRounds)
+	once.Do(keepRounds)
 	return rounds
 }
 
-func workOutRounds() {
-	for t, prime := range firstPrimes(len(rounds)) {
-		rounds[t] = cubeRootFraction(prime)
+func keepRounds() {
+	rounds = workedOut()
+}
+
+// workedOut is the numbers K, of the cube roots of the first primes.
+func workedOut() [64]uint32 {
+	var k [64]uint32
+	for t, prime := range firstPrimes(len(k)) {
+		k[t] = cubeRootFraction(prime)
 	}
+	return k
 }
 
 // cubeRootFraction is the first 32 bits behind the point of the cube root of n, which is below 512.
