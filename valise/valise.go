@@ -4,8 +4,10 @@ package valise
 import (
 	"valise/api"
 	"valise/check"
+	"valise/deflate"
 	"valise/digest"
 	"valise/disk"
+	"valise/inflate"
 )
 
 // Digest tells a digest (P2).
@@ -15,10 +17,15 @@ func Digest(data string) string { return digest.Of(data) }
 func Check(data string) int { return int(check.Of(data)) }
 
 // Inflate unpacks bytes (P3).
-func Inflate(packed string) (string, int, api.Errno) { return "", 0, api.OK }
+func Inflate(packed string) (string, int, api.Errno) { return inflate.Bytes(packed) }
 
 // Deflate packs bytes (P4).
-func Deflate(data string) (string, api.Errno) { return "", api.OK }
+func Deflate(data string) (string, api.Errno) {
+	if len(data) > api.MaxData {
+		return "", api.ErrLarge
+	}
+	return deflate.Bytes(data), api.OK
+}
 
 // Choose chooses a module's files (P5).
 func Choose(tree []api.Entry) ([]api.File, []api.Left, api.Errno) { return nil, nil, api.OK }
