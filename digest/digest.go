@@ -18,6 +18,17 @@ func Of(data string) string {
 	return inHex(words(data, roundNumbers()))
 }
 
+// Bytes tells the digest of data as 32 bytes.
+func Bytes(data string) [32]byte {
+	var sum [32]byte
+	for i, word := range words(data, roundNumbers()) {
+		for place := range 4 {
+			sum[4*i+place] = byte(word >> (24 - 8*place))
+		}
+	}
+	return sum
+}
+
 // words takes whole blocks where they stand, so that only the last piece of long data is copied.
 func words(data string, k [64]uint32) [8]uint32 {
 	whole := len(data) - len(data)%blockSize

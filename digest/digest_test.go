@@ -1,6 +1,7 @@
 package digest
 
 import (
+	"encoding/hex"
 	"math/big"
 	"strings"
 	"sync"
@@ -134,6 +135,15 @@ func TestOfNothingAndOfText(t *testing.T) {
 	} {
 		if got := Of(data); got != want {
 			t.Errorf("Of(%q) = %s, want %s", data, got, want)
+		}
+	}
+}
+
+func TestBytesAreTheSameDigest(t *testing.T) {
+	for _, data := range []string{"", "abc", strings.Repeat("valise", 100)} {
+		sum := Bytes(data)
+		if got := hex.EncodeToString(sum[:]); got != Of(data) {
+			t.Errorf("of %d bytes: %s, want %s", len(data), got, Of(data))
 		}
 	}
 }

@@ -3,11 +3,15 @@ package valise
 
 import (
 	"valise/api"
+	"valise/archives"
 	"valise/check"
+	"valise/choose"
 	"valise/deflate"
 	"valise/digest"
 	"valise/disk"
 	"valise/inflate"
+	"valise/names"
+	"valise/sums"
 )
 
 // Digest tells a digest (P2).
@@ -28,25 +32,48 @@ func Deflate(data string) (string, api.Errno) {
 }
 
 // Choose chooses a module's files (P5).
-func Choose(tree []api.Entry) ([]api.File, []api.Left, api.Errno) { return nil, nil, api.OK }
+func Choose(tree []api.Entry) ([]api.File, []api.Left, api.Errno) { return choose.Files(tree) }
 
 // Pack packs a module (P6).
 func Pack(module string, version string, tree []api.Entry) (string, api.Errno) {
-	return "", api.OK
+	prefix, ok := names.Prefix(module, version)
+	if !ok {
+		return "", api.ErrModule
+	}
+	files, _, fault := choose.Files(tree)
+	if fault != api.OK {
+		return "", fault
+	}
+	return archives.Pack(prefix, files)
 }
 
 // Unpack unpacks an archive (P7).
 func Unpack(module string, version string, archive string) ([]api.File, api.Errno) {
-	return nil, api.OK
+	prefix, ok := names.Prefix(module, version)
+	if !ok {
+		return nil, api.ErrModule
+	}
+	return archives.Unpack(prefix, archive)
 }
 
 // Sum tells the sum of files (P8).
 func Sum(module string, version string, files []api.File) (string, api.Errno) {
-	return "", api.OK
+	prefix, ok := names.Prefix(module, version)
+	if !ok {
+		return "", api.ErrModule
+	}
+	return sums.Of(prefix, files)
 }
 
 // Verify holds an archive against a sum (P8).
 func Verify(module string, version string, archive string, sum string) api.Errno {
+	files, fault := Unpack(module, version, archive)
+	if fault != api.OK {
+		return fault
+	}
+	if told, fault := Sum(module, version, files); fault != api.OK || told != sum {
+		return api.ErrSum
+	}
 	return api.OK
 }
 
