@@ -13,12 +13,13 @@ var startWords = [8]uint32{
 	0x510e527f, 0x9b05688c, 0x1f83d9ab, 0x5be0cd19,
 }
 
-// Of tells the digest of data as 64 digits of base 16.
+// Of tells the digest of data as 64 digits of base 16. It works the numbers K out for itself, so
+// that what it answers hangs on nothing that is kept.
 func Of(data string) string {
-	return inHex(words(data, roundNumbers()))
+	return inHex(words(data, workedOut()))
 }
 
-// Bytes tells the digest of data as 32 bytes.
+// Bytes tells the digest of data as 32 bytes, by the numbers K that are kept.
 func Bytes(data string) [32]byte {
 	var sum [32]byte
 	for i, word := range words(data, roundNumbers()) {

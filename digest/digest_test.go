@@ -82,10 +82,29 @@ func TestRoundNumbersAreWhatIsWorkedOut(t *testing.T) {
 		t.Errorf("what is worked out hangs on what is kept")
 	}
 	rounds[63]--
+}
+
+// Of meets nothing that is kept, neither what it is nor whether it is there; Bytes reads it.
+func TestWhoReadsWhatIsKept(t *testing.T) {
 	for _, data := range []string{"", "abc", strings.Repeat("valise", 100)} {
-		if got := inHex(words(data, want)); got != Of(data) {
-			t.Errorf("of %d bytes: %s by the function, %s by what is kept", len(data), got, Of(data))
+		text, bytes := Of(data), Bytes(data)
+		rounds[5]++
+		if Of(data) != text {
+			t.Errorf("of %d bytes: Of hangs on what is kept", len(data))
 		}
+		if Bytes(data) == bytes {
+			t.Errorf("of %d bytes: Bytes does not read what is kept", len(data))
+		}
+		rounds[5]--
+	}
+	once, rounds = sync.Once{}, [64]uint32{}
+	Of("abc")
+	if rounds != ([64]uint32{}) {
+		t.Errorf("Of makes the numbers be kept")
+	}
+	Bytes("abc")
+	if rounds != workedOut() {
+		t.Errorf("Bytes does not make the numbers be kept")
 	}
 }
 

@@ -5,8 +5,9 @@ import (
 	"sync"
 )
 
-// The numbers K are the same for every digest, so they are worked out once and kept. These two
-// stand beside workedOut, which needs neither: keeping spares work, and changes no answer.
+// The numbers K are the same for every digest, so they are worked out once and kept, for Bytes.
+// These two stand beside workedOut, which meets neither, and by which Of answers: keeping spares
+// work, and changes no answer.
 var (
 	once   sync.Once
 	rounds [64]uint32
