@@ -30,11 +30,16 @@ func (m Met) Add(name string) {
 
 // beginnings are the folders a name stands in, from the first on, and the name.
 func beginnings(name string) []string {
+	return append(Folders(name), name)
+}
+
+// Folders are those that a name stands in, from the first on.
+func Folders(name string) []string {
 	var list []string
 	for end := range len(name) {
 		if name[end] == '/' {
 			list = append(list, name[:end])
 		}
 	}
-	return append(list, name)
+	return list
 }

@@ -144,6 +144,14 @@ func TestMet(t *testing.T) {
 	}
 }
 
+func TestFolders(t *testing.T) {
+	for name, want := range map[string]string{"": "", "a": "", "a/b": "a", "aa/b/c.d": "aa|aa/b", "a/b/c/d": "a|a/b|a/b/c"} {
+		if got := strings.Join(Folders(name), "|"); got != want {
+			t.Errorf("%q stands in %q, want %q", name, got, want)
+		}
+	}
+}
+
 // Names of few letters, one behind the other, held against what is said of each two.
 func TestMetOfMany(t *testing.T) {
 	r := rand.New(rand.NewSource(7))

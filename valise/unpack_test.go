@@ -312,45 +312,6 @@ func TestP7Data(t *testing.T) {
 	}
 }
 
-// P11: what was packed is unpacked, with one sum.
-func TestP11WhatWasPackedIsUnpacked(t *testing.T) {
-	r := rand.New(rand.NewSource(11))
-	for range 200 {
-		tree := drawnTree(r)
-		files, _, _ := Choose(tree)
-		archive := packOf(t, tree)
-		back, fault := Unpack(module, version, archive)
-		if fault != api.OK || !slices.Equal(back, files) {
-			t.Fatalf("P11: %d files, %d, want %d", len(back), fault, len(files))
-		}
-		sum, _ := Sum(module, version, files)
-		if fault := Verify(module, version, archive, sum); fault != api.OK {
-			t.Errorf("P11: Verify: %d", fault)
-		}
-	}
-}
-
-// P11: bits within 32 side by side are turned, in files that lie there as they are.
-func TestP11TurnedBitsAreTold(t *testing.T) {
-	r := rand.New(rand.NewSource(32))
-	right := archiveOf(asIs("a", noise(r, 90, 256)), asIs("b/c", noise(r, 5, 256)), asIs("d", ""), asIs("go.mod", "module m.x/y\n"))
-	sum, _ := Sum(module, version, nil)
-	for first := range 8 * len(right) {
-		for _, pattern := range []uint32{1, 3, 0xffffffff, 0x80000001, r.Uint32() | 1} {
-			changed := []byte(right)
-			for i := range 32 {
-				if at := first + i; pattern>>i&1 == 1 && at < 8*len(right) {
-					changed[at/8] ^= 1 << (at % 8)
-				}
-			}
-			files, fault := Unpack(module, version, string(changed))
-			if len(files) != 0 || fault == api.OK || Verify(module, version, string(changed), sum) != fault {
-				t.Fatalf("P11: bits from %d on, %x: %d", first, pattern, fault)
-			}
-		}
-	}
-}
-
 // P1: whatever is handed in, Unpack ends; what it takes is what Pack's form says.
 func TestP1UnpackOfSpoiltArchives(t *testing.T) {
 	r := rand.New(rand.NewSource(77))

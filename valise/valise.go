@@ -11,6 +11,7 @@ import (
 	"valise/disk"
 	"valise/inflate"
 	"valise/names"
+	"valise/places"
 	"valise/sums"
 )
 
@@ -79,8 +80,20 @@ func Verify(module string, version string, archive string, sum string) api.Errno
 
 // Extract writes an archive's files to a disk (P9).
 func Extract(d *disk.Disk, place string, module string, version string, archive string) api.Errno {
-	return api.OK
+	if !places.Is(place) {
+		return api.ErrPlace
+	}
+	files, fault := Unpack(module, version, archive)
+	if fault != api.OK {
+		return fault
+	}
+	return places.Lay(d, place, files)
 }
 
 // Recover cleans a disk behind an Extract that was stopped (P10).
-func Recover(d *disk.Disk, place string) api.Errno { return api.OK }
+func Recover(d *disk.Disk, place string) api.Errno {
+	if !places.Is(place) {
+		return api.ErrPlace
+	}
+	return places.Clear(d, place)
+}
