@@ -13,16 +13,15 @@ var startWords = [8]uint32{
 	0x510e527f, 0x9b05688c, 0x1f83d9ab, 0x5be0cd19,
 }
 
-// Of tells the digest of data as 64 digits of base 16. It works the numbers K out for itself, so
-// that what it answers hangs on nothing that is kept.
+// Of tells the digest of data as 64 digits of base 16.
 func Of(data string) string {
-	return inHex(words(data, workedOut()))
+	return inHex(words(data))
 }
 
-// Bytes tells the digest of data as 32 bytes, by the numbers K that are kept.
+// Bytes tells the digest of data as 32 bytes.
 func Bytes(data string) [32]byte {
 	var sum [32]byte
-	for i, word := range words(data, roundNumbers()) {
+	for i, word := range words(data) {
 		for place := range 4 {
 			sum[4*i+place] = byte(word >> (24 - 8*place))
 		}
@@ -31,7 +30,9 @@ func Bytes(data string) [32]byte {
 }
 
 // words takes whole blocks where they stand, so that only the last piece of long data is copied.
-func words(data string, k [64]uint32) [8]uint32 {
+// The numbers K are worked out for each digest, so that it hangs on nothing that is kept.
+func words(data string) [8]uint32 {
+	k := workedOut()
 	whole := len(data) - len(data)%blockSize
 	h := absorb(startWords, k, data[:whole])
 	return absorb(h, k, data[whole:]+padding(uint64(len(data))))

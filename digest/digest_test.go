@@ -46,7 +46,7 @@ func TestStartWordsAreSquareRoots(t *testing.T) {
 }
 
 func TestRoundNumbersAreCubeRoots(t *testing.T) {
-	k := roundNumbers()
+	k := RoundNumbers()
 	for i, prime := range somePrimes(64) {
 		if !isCubeFraction(prime, k[i]) {
 			t.Errorf("K(%d) = %08x, which is not of the cube root of %d", i, k[i], prime)
@@ -58,14 +58,14 @@ func TestRoundNumbersAreCubeRoots(t *testing.T) {
 }
 
 func TestRoundNumbersAreKept(t *testing.T) {
-	k := roundNumbers()
+	k := RoundNumbers()
 	want := k
 	k[0]++
-	if roundNumbers() != want {
+	if RoundNumbers() != want {
 		t.Errorf("what was handed out is what is kept")
 	}
 	rounds[0]++ // were they worked out again, this would be gone
-	if roundNumbers() != k {
+	if RoundNumbers() != k {
 		t.Errorf("the numbers are worked out again")
 	}
 	rounds[0]--
@@ -74,7 +74,7 @@ func TestRoundNumbersAreKept(t *testing.T) {
 // What is kept is what the function works out, and it works it out of nothing that is kept.
 func TestRoundNumbersAreWhatIsWorkedOut(t *testing.T) {
 	want := workedOut()
-	if roundNumbers() != want {
+	if RoundNumbers() != want {
 		t.Errorf("what is kept is not what is worked out")
 	}
 	rounds[63]++
@@ -84,27 +84,29 @@ func TestRoundNumbersAreWhatIsWorkedOut(t *testing.T) {
 	rounds[63]--
 }
 
-// Of meets nothing that is kept, neither what it is nor whether it is there; Bytes reads it.
+// Of and Bytes meet nothing that is kept, neither what it is nor whether it is there; RoundNumbers
+// reads it.
 func TestWhoReadsWhatIsKept(t *testing.T) {
 	for _, data := range []string{"", "abc", strings.Repeat("valise", 100)} {
-		text, bytes := Of(data), Bytes(data)
+		text, bytes, kept := Of(data), Bytes(data), RoundNumbers()
 		rounds[5]++
-		if Of(data) != text {
-			t.Errorf("of %d bytes: Of hangs on what is kept", len(data))
+		if Of(data) != text || Bytes(data) != bytes {
+			t.Errorf("of %d bytes: the digest hangs on what is kept", len(data))
 		}
-		if Bytes(data) == bytes {
-			t.Errorf("of %d bytes: Bytes does not read what is kept", len(data))
+		if RoundNumbers() == kept {
+			t.Errorf("RoundNumbers does not read what is kept")
 		}
 		rounds[5]--
 	}
 	once, rounds = sync.Once{}, [64]uint32{}
 	Of("abc")
-	if rounds != ([64]uint32{}) {
-		t.Errorf("Of makes the numbers be kept")
-	}
 	Bytes("abc")
+	if rounds != ([64]uint32{}) {
+		t.Errorf("a digest makes the numbers be kept")
+	}
+	RoundNumbers()
 	if rounds != workedOut() {
-		t.Errorf("Bytes does not make the numbers be kept")
+		t.Errorf("RoundNumbers does not make the numbers be kept")
 	}
 }
 
@@ -116,7 +118,7 @@ func TestRoundNumbersSideBySide(t *testing.T) {
 		all.Add(1)
 		go func() {
 			defer all.Done()
-			got[i] = roundNumbers()
+			got[i] = RoundNumbers()
 		}()
 	}
 	all.Wait()

@@ -5,16 +5,16 @@ import (
 	"sync"
 )
 
-// The numbers K are the same for every digest, so they are worked out once and kept, for Bytes.
-// These two stand beside workedOut, which meets neither, and by which Of answers: keeping spares
-// work, and changes no answer.
+// The numbers K are the same for every digest, so they are worked out once and kept, to be told.
+// These two stand beside workedOut, which meets neither, and by which Of and Bytes answer: so no
+// digest hangs on what is kept.
 var (
 	once   sync.Once
 	rounds [64]uint32
 )
 
-// roundNumbers hands out the numbers K as a copy, so that what is kept can't be changed through it.
-func roundNumbers() [64]uint32 {
+// RoundNumbers tells the numbers K that are kept, as a copy: what is kept can't be changed through it.
+func RoundNumbers() [64]uint32 {
 	once.Do(keepRounds)
 	return rounds
 }
